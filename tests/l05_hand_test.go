@@ -366,12 +366,12 @@ func TestHandOkOwn(t *testing.T) {
 	}
 }
 
-// TestHandOkSmall is HandOk on every list of up to 3 cells, right or not, and all hands near it.
+// TestHandOkSmall is HandOk at every list of up to 3 cells: one hand where it is no heap, all hands near it where it is one.
 func TestHandOkSmall(t *testing.T) {
-	right, seen := 0, 0
+	right := 0
 	smallHeaps(func(h []impl.Cell) {
-		if seen++; !wantedHeap(h) {
-			if seen%7 == 0 && impl.HandOk(h, newHand(impl.HnLook, 1, 0)) {
+		if !wantedHeap(h) {
+			if impl.HandOk(h, newHand(impl.HnLook, 1, 0)) {
 				t.Fatalf("no heap, but HandOk: %v", h)
 			}
 			return
@@ -391,7 +391,7 @@ func TestHandOkSmall(t *testing.T) {
 	}
 }
 
-// TestMovedSmall is each move of each Kind, at every heap of up to 4 cells with Keys up to 3, and what comes of it Alone.
+// TestMovedSmall is each move of each Kind, and what comes of it Alone, at the small heaps of up to 3 cells, and of Key 2 at all crossings (Alone there in SpWalk and SpLink).
 func TestMovedSmall(t *testing.T) {
 	var right [4][6]int
 	smallHeaps(func(h []impl.Cell) {
@@ -402,11 +402,7 @@ func TestMovedSmall(t *testing.T) {
 			})
 		}
 	})
-	turn := 0
 	crossings(func(h []impl.Cell) {
-		if turn++; turn%5 != 0 {
-			return
-		}
 		nearHands(h, []int64{1, 2, 3}, []int64{2}, []int64{0}, func(w impl.Hand) {
 			if !wantedHand(h, w) {
 				return
