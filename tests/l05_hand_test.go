@@ -105,10 +105,11 @@ func wantedWalk(h []impl.Cell, w impl.Hand) ([]impl.Cell, impl.Hand) {
 		}
 		return out, handAt(w, impl.SpWalk, w.Left, next, w.Own)
 	}
-	if h[w.Left].Gone {
+	left := w.Here
+	if h[left].Gone { // the words ask it, though one that is Gone was met above
 		return h, back
 	}
-	return h, handAt(w, impl.SpWalk, w.Here, next, w.Own)
+	return h, handAt(w, impl.SpWalk, left, next, w.Own)
 }
 
 func wantedAct(h []impl.Cell, w impl.Hand) ([]impl.Cell, impl.Hand) {
@@ -477,7 +478,9 @@ func TestMovedInWalk(t *testing.T) {
 			{"on from cell 0", nil, at(impl.SpWalk, 0, 1), at(impl.SpWalk, 1, 2), nil},
 			{"on to one that is Gone", map[int]impl.Cell{0: {Next: 2}, 2: {Key: 3, Next: 3}}, at(impl.SpWalk, 0, 2), at(impl.SpWalk, 2, 3), nil},
 			{"on to the end", map[int]impl.Cell{1: {Key: 2, Next: -1}}, at(impl.SpWalk, 0, 1), at(impl.SpWalk, 1, -1), nil},
-			{"a Left that is Gone, Here is not", nil, at(impl.SpWalk, 9, 1), at(impl.SpStart, -1, -1), nil},
+			{"on from a Left that is Gone and outside", nil, at(impl.SpWalk, 9, 1), at(impl.SpWalk, 1, 2), nil},
+			{"on from a Left that is Gone and leads there", map[int]impl.Cell{1: {Key: 2, Next: 2, Gone: true}, 2: {Key: 3, Next: 3}}, at(impl.SpWalk, 1, 2), at(impl.SpWalk, 2, 3), nil},
+			{"on from a Left that is Gone to the end", map[int]impl.Cell{1: {Key: 2, Next: -1}}, at(impl.SpWalk, 9, 1), at(impl.SpWalk, 1, -1), nil},
 			{"a Left that leads elsewhere, Here lesser", map[int]impl.Cell{2: {Key: 3, Next: 3}}, at(impl.SpWalk, 0, 2), at(impl.SpWalk, 2, 3), nil},
 			{"Here is Gone, lesser", nil, at(impl.SpWalk, 1, 2), at(impl.SpWalk, 1, 3), cut},
 			{"Here is Gone, that Key", cut, at(impl.SpWalk, 1, 3), at(impl.SpWalk, 1, 4), map[int]impl.Cell{1: {Key: 2, Value: 20, Next: 4}}},
@@ -492,6 +495,8 @@ func TestMovedInWalk(t *testing.T) {
 	}
 	w := handAt(newHand(impl.HnPut, 5, 51), impl.SpWalk, 2, 3, 6)
 	move{"back, with an Own", nil, w, handAt(w, impl.SpStart, -1, -1, 6), nil}.check(t)
+	w = handAt(newHand(impl.HnPut, 5, 51), impl.SpWalk, 9, 1, 6)
+	move{"on from a Left that is Gone, with an Own", nil, w, handAt(w, impl.SpWalk, 1, 2, 6), nil}.check(t)
 }
 
 func TestMovedInAct(t *testing.T) {
@@ -689,6 +694,38 @@ func TestAloneOfMeeting(t *testing.T) {
 	} {
 		if got, done := impl.Alone(meeting(), c.hand); done != c.done || !slices.Equal(got, c.want) {
 			t.Errorf("Alone(%+v) = %v, %+v, want %v, %+v", c.hand, got, done, c.want, c.done)
+		}
+	}
+}
+
+// TestAloneFromAGoneLeft: a hand whose Left was struck goes on from where it is, so the Gone cell behind it stays in the Chain; only what must swap at that Left begins again.
+func TestAloneFromAGoneLeft(t *testing.T) {
+	first, last := impl.Cell{Next: 1}, impl.Cell{Key: 7, Value: 70, Next: -1}
+	gone, mid := impl.Cell{Key: 1, Value: 10, Next: 2, Gone: true}, impl.Cell{Key: 3, Value: 30, Next: 3}
+	struck, led := impl.Cell{Key: 3, Value: 30, Next: 3, Gone: true}, impl.Cell{Key: 3, Value: 30, Next: 4}
+	fresh := impl.Cell{Key: 5, Value: 50, Next: 3}
+	for _, c := range []struct {
+		what string
+		hand impl.Hand
+		own  int64
+		told int64
+		want []impl.Cell
+	}{
+		{"looks, there", handAt(newHand(impl.HnLook, 7, 0), impl.SpWalk, 1, 2, -1), -1, 1, []impl.Cell{first, gone, mid, last}},
+		{"looks, not there", handAt(newHand(impl.HnLook, 5, 0), impl.SpWalk, 1, 2, -1), -1, 2, []impl.Cell{first, gone, mid, last}},
+		{"puts, not there", handAt(newHand(impl.HnPut, 5, 50), impl.SpWalk, 1, 2, -1), 4, 1, []impl.Cell{first, gone, led, last, fresh}},
+		{"puts, there", handAt(newHand(impl.HnPut, 7, 0), impl.SpWalk, 1, 2, -1), -1, 2, []impl.Cell{first, gone, mid, last}},
+		{"takes, there", handAt(newHand(impl.HnTake, 7, 0), impl.SpWalk, 1, 2, -1), -1, 1, []impl.Cell{first, gone, mid, {Key: 7, Value: 70, Next: -1, Gone: true}}},
+		{"takes, not there", handAt(newHand(impl.HnTake, 5, 0), impl.SpWalk, 1, 2, -1), -1, 2, []impl.Cell{first, gone, mid, last}},
+		{"takes what it looks at", handAt(newHand(impl.HnTake, 3, 0), impl.SpWalk, 1, 2, -1), -1, 1, []impl.Cell{first, gone, struck, last}},
+		{"puts ahead of what it looks at", handAt(newHand(impl.HnPut, 2, 20), impl.SpWalk, 1, 2, -1), 4, 1, []impl.Cell{{Next: 4}, gone, mid, last, {Key: 2, Value: 20, Next: 2}}},
+	} {
+		h := []impl.Cell{first, gone, mid, last}
+		if !impl.HandOk(h, c.hand) {
+			t.Errorf("%s: not HandOk", c.what)
+		}
+		if got, done := impl.Alone(h, c.hand); done != handDone(c.hand, c.own, c.told) || !slices.Equal(got, c.want) {
+			t.Errorf("%s: Alone = %v, %+v, want %v", c.what, got, done, c.want)
 		}
 	}
 }
