@@ -99,6 +99,11 @@ func keptLarder(t *testing.T, l impl.Larder) func(call string) {
 	}
 }
 
+// wantedDrop: of how many commands there are, there are at most 400.
+func wantedDrop(d impl.Drop) bool {
+	return wantedName(d.Name) && (d.Cause == 1 || d.Cause == 2) && d.After >= 1 && d.After <= 400
+}
+
 // wantedLarder takes the words of the document one by one.
 func wantedLarder(l impl.Larder) bool {
 	switch {
@@ -106,6 +111,7 @@ func wantedLarder(l impl.Larder) bool {
 	case !wantedStore(l.Book), len(l.Book.Items) > 19, wantedHeavy(l.Book.Items) > l.Room:
 	case !wantedChoice(l.Choice), !wantedTally(l.Tally):
 	case int64(len(l.Drops))+int64(len(l.Book.Items)) > l.Count:
+	case slices.ContainsFunc(l.Drops, func(d impl.Drop) bool { return !wantedDrop(d) }):
 	default:
 		names := wantedNamesOf(l.Choice)
 		slices.Sort(names)
@@ -420,6 +426,9 @@ func larderKinds() map[string]impl.Larder {
 		l = larderCopy(l)
 		l.Count, l.Seed = 400, 1000000
 		add("all done", l)
+		l = wordLarder(kind, 30, "b* >a c", 9, 10, 11)
+		l.Count, l.Drops = 11, wordDrops("a:1@400 b-0:2@1 b-0:1@400 abcdefghijkl:2@12 -:1@11 9:2@2 a:1@1 a:1@1")
+		add("drops in no order", l)
 		words := strings.Join(manyNames(19), " ")
 		var list []impl.Item
 		for number, name := range manyNames(19) {
@@ -533,7 +542,7 @@ func TestLarderOkNames(t *testing.T) {
 	}
 }
 
-// TestLarderOkCount: Drops and things together, up to Count and one more. What a Drop tells is not asked.
+// TestLarderOkCount: Drops and things together, up to Count and one more.
 func TestLarderOkCount(t *testing.T) {
 	for _, kind := range bothKinds {
 		for _, things := range []int{0, 1, 2, 19} {
@@ -549,15 +558,110 @@ func TestLarderOkCount(t *testing.T) {
 			}
 		}
 	}
-	for _, d := range []impl.Drop{{}, {Name: "a"}, {Name: "Z", Cause: 1, After: 1}, {Name: "a", Cause: 3, After: 1}, {Name: "a", Cause: 1, After: 401}, spareDrop} {
-		l := larderOf(1, 30, "a", plainItem("a"))
-		l.Count, l.Drops = 2, roomyDrops(d)
-		if !impl.LarderOk(l) {
-			t.Errorf("%+v: it is refused", d)
+}
+
+// wrongDrops are wrong in one part each, but the zero Drop and the spare one.
+func wrongDrops() []impl.Drop {
+	list := []impl.Drop{{}, spareDrop, {Name: "a"}}
+	for _, name := range append(oddNames(), nearNames("abcdefghijkl")...) {
+		if !wantedName(name) {
+			list = append(list, impl.Drop{Name: name, Cause: 1, After: 1})
 		}
-		for _, c := range []impl.Cmd{setOf("b", 22), {Verb: impl.VbGet, Name: "a"}} {
-			checkDidLarder(t, l, c)
-			askDidLarder(t, l, c)
+	}
+	for _, n := range append([]int64{0, 3, 4, 5, 257, 258}, endNumbers...) {
+		list = append(list, impl.Drop{Name: "a", Cause: n, After: 1})
+	}
+	for _, n := range append([]int64{0, 401, 402, 800, 1000000}, endNumbers...) {
+		list = append(list, impl.Drop{Name: "a", Cause: 2, After: n})
+	}
+	return list
+}
+
+// rightDrops: After may be behind more commands than there were.
+func rightDrops() []impl.Drop {
+	var list []impl.Drop
+	for _, name := range []string{"a", "z", "0", "9", "-", "a-0", "abcdefghijkl", "------------", "nobody"} {
+		for _, cause := range []int64{1, 2} {
+			for _, after := range []int64{1, 2, 3, 4, 200, 256, 257, 399, 400} {
+				list = append(list, impl.Drop{Name: name, Cause: cause, After: after})
+			}
+		}
+	}
+	return list
+}
+
+// droppedLarder has had so many more drops than this one, which is the one at place.
+func droppedLarder(kind int64, d impl.Drop, place, more int) impl.Larder {
+	l := wordLarder(kind, 20, "a b", 10, 10)
+	l.Drops = roomyDrops(slices.Insert(slices.Repeat([]impl.Drop{{Name: "z", Cause: 1, After: 1}}, more), place, d)...)
+	l.Count = int64(more + 3)
+	return l
+}
+
+// TestLarderOkDrops: each one is asked, wherever it stands; whether there was such a command, and when, is not.
+func TestLarderOkDrops(t *testing.T) {
+	for _, kind := range bothKinds {
+		for _, many := range []int{0, 1, 2, 19, 396} {
+			for _, place := range []int{0, many / 2, many} {
+				for _, d := range rightDrops() {
+					l := droppedLarder(kind, d, place, many)
+					if !impl.LarderOk(l) {
+						t.Errorf("%+v at %d of %d more: it is refused", d, place, many)
+					}
+					checkLarder(t, l)
+				}
+				for _, d := range wrongDrops() {
+					l := droppedLarder(kind, d, place, many)
+					if impl.LarderOk(l) {
+						t.Errorf("%+v at %d of %d more: LarderOk", d, place, many)
+					}
+					checkLarder(t, l)
+				}
+			}
+		}
+	}
+}
+
+// TestDropsStay: those there are come first, as they are; of a larder with a wrong one nothing is answered.
+func TestDropsStay(t *testing.T) {
+	for _, kind := range bothKinds {
+		for _, d := range rightDrops() {
+			l := droppedLarder(kind, d, 1, 1)
+			for _, c := range []impl.Cmd{setOf("c", 10), {Verb: impl.VbGet, Name: "a"}, {Verb: impl.VbClear}} {
+				checkDidLarder(t, l, c)
+				if got := askDidLarder(t, l, c); got.Drops[1] != d {
+					t.Errorf("%+v: DidLarder(%+v): %+v", d, c, got.Drops)
+				}
+			}
+			if got, ok := impl.Later(l, 5); !ok || got.Now != 5 || !slices.Equal(got.Drops, l.Drops) {
+				t.Errorf("%+v: Later: %+v, %v", d, got, ok)
+			}
+		}
+		for _, d := range wrongDrops() {
+			l := droppedLarder(kind, d, 1, 1)
+			for _, c := range []impl.Cmd{setOf("c", 10), {Verb: impl.VbGet, Name: "a"}, {Verb: impl.VbClear}, {}} {
+				if got, r := impl.DidLarder(l, c); r != (impl.Reply{Kind: impl.RpError}) || !isZeroLarder(got) {
+					t.Errorf("%+v: DidLarder(%+v) = %+v, %+v", d, c, got, r)
+				}
+			}
+			if got, ok := impl.Later(l, 5); ok || !isZeroLarder(got) {
+				t.Errorf("%+v: Later: %+v, %v", d, got, ok)
+			}
+		}
+	}
+}
+
+// TestDropsBehind: what stands in the spare room behind the list is not asked.
+func TestDropsBehind(t *testing.T) {
+	for _, kind := range bothKinds {
+		for _, d := range wrongDrops() {
+			l := droppedLarder(kind, d, 2, 2)
+			l.Drops = l.Drops[:2]
+			if !impl.LarderOk(l) {
+				t.Errorf("%+v behind the list: it is refused", d)
+			}
+			checkDidLarder(t, l, setOf("c", 10))
+			checkLater(t, l, 5)
 		}
 	}
 }
@@ -1332,6 +1436,9 @@ func wrongLarders() map[string]impl.Larder {
 		spoilt("Count 401", func(l *impl.Larder) { l.Count = 401 })
 		spoilt("Count 4", func(l *impl.Larder) { l.Count = 4 })
 		spoilt("Count 0", func(l *impl.Larder) { l.Count = 0 })
+		for _, d := range wrongDrops() {
+			spoilt(fmt.Sprintf("%+v", d), func(l *impl.Larder) { l.Drops[1] = d })
+		}
 		spoilt("one Drop more", func(l *impl.Larder) { l.Drops = wordDrops("d:1@4 e:2@5 f:1@5") })
 		spoilt("Room 29", func(l *impl.Larder) { l.Room = 29 })
 		spoilt("Room 0", func(l *impl.Larder) { l.Room = 0 })
